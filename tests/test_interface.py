@@ -1,0 +1,110 @@
+"""The interface: each name stands, with its arguments, in the file and the class under which it is listed."""
+
+import ast
+import importlib
+import inspect
+import pathlib
+import unittest
+
+PACKAGE = pathlib.Path(__file__).parent.parent / "wheelchorus"
+
+FUNCTIONS = {
+    "numbers": {
+        "is_number": "(thing)", "row_of": "(number)", "length_of": "(number)", "number_of": "(row)",
+        "blocks": "(number)", "goes_ahead": "(one, other)",
+    },
+    "rows": {"strokes_of": "(number)", "pattern": "(number, times=1)"},
+    "towntext": {"town_text": "(town)", "read_town": "(text)"},
+    "fits": {
+        "fits": "(number, within)", "fits_by_ticks": "(number, within)", "fit_blocks": "(number, within, at)",
+        "train_fits": "(number, within, rounds)",
+    },
+    "heads": {"step_back": "(number, pattern)", "head_of": "(number, pattern)", "shared": "(one, other)"},
+    "lays": {
+        "train_strokes": "(number, at, rounds, span)", "lays": "(pattern, span, boxes, rounds, case)",
+        "lay_of": "(facts, pattern, span, boxes, rounds, case)", "clash": "(one, other)",
+    },
+    "boxes": {"wheel": "(number, sort, rounds)"},
+    "parts": {
+        "near_part": "(boxes, stretches)", "far_part": "(boxes, stretches)", "dumb_part": "(boxes, stretches)",
+        "wires": "(town, cuts, joined)", "dumb_numbers": "(town, cuts)",
+    },
+    "line": {"tried": "(line, deeds, ticks)", "play": "(town, timed, ticks)"},
+    "waiting": {"meeting": "(numbers)", "due_rounds": "(rounds, pulls)", "most_ticks": "(rounds, numbers)"},
+    "tapes": {
+        "is_tape": "(thing)", "pieces": "(tape)", "walk_pieces": "(tape)", "piece_ticks": "(piece)",
+        "rounds_on": "(tape)",
+    },
+    "hearing": {
+        "heard_on": "(tape, hear)", "first_heard": "(tape, hear, number)", "calls_on": "(tapes, hear)",
+    },
+}
+
+# For each class its own arguments (None if they are not told), its methods and its properties.
+CLASSES = {
+    "rows": {"Strokes": ("(self, offsets=())", {"within": "(self, other)", "cut": "(self, end)"}, ["lowest"])},
+    "town": {"Town": ("(self, loops, *, rounds, hear=1)", {
+        "sort_of": "(self, number)", "loop_of": "(self, number)", "place_of": "(self, number)",
+        "wire": "(self, loop=None)", "with_sort": "(self, number, sort)", "with_number": "(self, old, new)",
+        "with_rules": "(self, *, rounds=None, hear=None)",
+    }, [])},
+    "lays": {"Lay": (None, {"facts": "(self)", "gives": "(self, offset)", "clean": "(self, span)"}, [])},
+    "boxes": {
+        "WheelBox": ("(self, number, rounds)", {"pull": "(self)", "can_begin": "(self)", "begin": "(self)"},
+                     ["standing", "breaks"]),
+        "PlainBox": (None, {"__call__": "(self, broken)", "copied": "(self)"}, []),
+        "ShyBox": (None, {"can_begin": "(self)", "__call__": "(self, broken)", "copied": "(self)"}, []),
+    },
+    "line": {
+        "Line": ("(self, town)", {
+            "pull": "(self, number)", "cut": "(self, loop, stretch)", "mend": "(self, loop, stretch)",
+            "join": "(self)", "part": "(self)", "do": "(self, deed)", "tick": "(self)", "ticks": "(self, many)",
+            "box": "(self, number)", "near_tape": "(self, loop)", "far_tape": "(self, loop)", "trial": "(self)",
+        }, ["clock", "is_joined", "cuts", "last_signs", "tapes"]),
+        "Trial": ("(self, line)", {}, []),
+    },
+    "tapes": {"Sign": (None, {}, [])},
+    "hearing": {
+        "Ear": ("(self, hear)", {"__call__": "(self, sign)"}, ["before"]),
+        "Ears": ("(self, many, hear)", {"__call__": "(self, signs)"}, []),
+    },
+}
+
+
+def module_of(name):
+    return importlib.import_module("wheelchorus." + name)
+
+
+class InterfaceTest(unittest.TestCase):
+    def test_functions(self):
+        for name, functions in FUNCTIONS.items():
+            body = ast.parse((PACKAGE / f"{name}.py").read_text()).body
+            defined = {node.name for node in body if isinstance(node, ast.FunctionDef)}
+            for function, arguments in functions.items():
+                self.assertIn(function, defined, name)
+                found = getattr(module_of(name), function)
+                self.assertEqual(str(inspect.signature(found)), arguments, function)
+
+    def test_classes(self):
+        for name, classes in CLASSES.items():
+            body = ast.parse((PACKAGE / f"{name}.py").read_text()).body
+            defined = {node.name for node in body if isinstance(node, ast.ClassDef)}
+            for word, (arguments, methods, properties) in classes.items():
+                self.assertIn(word, defined, name)
+                found = getattr(module_of(name), word)
+                if arguments is not None:
+                    self.assertEqual(str(inspect.signature(found.__init__)), arguments, word)
+                for method, told in methods.items():
+                    self.assertIn(method, vars(found), word)
+                    self.assertEqual(str(inspect.signature(vars(found)[method])), told, method)
+                for told in properties:
+                    self.assertIsInstance(vars(found)[told], property)
+
+    def test_generators(self):
+        self.assertTrue(inspect.isgeneratorfunction(module_of("lays").lays))
+        self.assertTrue(inspect.isgeneratorfunction(module_of("tapes").walk_pieces))
+        self.assertTrue(inspect.isgeneratorfunction(module_of("line").Line.ticks))
+
+
+if __name__ == "__main__":
+    unittest.main()

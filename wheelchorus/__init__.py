@@ -1,0 +1,1 @@
+"""Wheelchorus: street boxes that may sound at once, and what a watch room hears of them."""
