@@ -163,7 +163,10 @@ class NamesTest(unittest.TestCase):
         self.assertEqual(all_properties & all_attributes, set())
         self.assertEqual(all_properties & all_methods, set())
         self.assertEqual(all_attributes & NO_ATTRIBUTES, set())
-        generators = {one.name for one in nodes(ast.FunctionDef) if nodes((ast.Yield, ast.YieldFrom), one)}
+        generators = {
+            one.name for node in nodes(ast.ClassDef) for one in node.body
+            if isinstance(one, ast.FunctionDef) and nodes((ast.Yield, ast.YieldFrom), one)
+        }
         self.assertEqual(generators & all_attributes, set())
         for name, (methods, _, attributes) in families.items():
             for base in [name] + bases[name]:
@@ -185,9 +188,11 @@ class NamesTest(unittest.TestCase):
 
 class ExpressionsTest(unittest.TestCase):
     def test_what_does_not_stand(self):
-        kinds = (ast.Global, ast.AsyncFunctionDef, ast.GeneratorExp, ast.Div, ast.AnnAssign, ast.Await, ast.Import,
-                 ast.NamedExpr, ast.Global, ast.Nonlocal, ast.Delete, ast.Match, ast.Lambda)
+        kinds = (ast.Global, ast.AsyncFunctionDef, ast.Await, ast.Div, ast.AnnAssign)
         self.assertEqual(nodes(kinds), [])
+        for call in nodes(ast.Call):
+            if is_call_of(call, {"any", "all", "min", "max", "sum", "sorted"}):
+                self.assertFalse([one for one in call.args if isinstance(one, ast.GeneratorExp)], ast.dump(call))
         for node in nodes(ast.Constant):
             self.assertIsInstance(node.value, (int, str, type(None)))
             if isinstance(node.value, str):

@@ -52,15 +52,16 @@ class TextTest(unittest.TestCase):
         for head in ("", " ", "rounds 3 hear", "rounds  3 hear 2", "rounds 3  hear 2", "rounds 3 hear  2",
                      " rounds 3 hear 2", "rounds 3 hear 2 ", "round 3 hear 2", "rounds 3 Hear 2", "rounds 33 hear 2",
                      "rounds 3 hear 12", "rounds 3 hear x", "rounds x hear 2", "rounds -3 hear 2", "rounds 3 hear ",
-                     "rounds  hear 2", "rounds 3 hear 2 hear 2", "rounds\t3 hear 2", "loop 24 plain", "rounds 3, hear 2",
-                     "rounds \u0663 hear 2", "rounds \u00b3 hear 2", "rounds 3 hear 2\r"):
+                     "rounds  hear 2", "rounds 3 hear 2 hear 2", "rounds\t3 hear 2", "loop 24 plain",
+                     "rounds 3, hear 2", "rounds \u0663 hear 2", "rounds \u00b3 hear 2", "rounds 3 hear 2\r"):
             self.check_bad(head, 0, "head")
             self.check_bad(head + "\nloop 24 plain", 0, "head")
             self.check_bad(head + "\nloop 24", 0, "head")
 
     def test_loop_rows(self):
         for row in ("", " ", "loop", "loop ", "loop  24 plain", " loop 24 plain", "loops 24 plain", "Loop 24 plain",
-                    "loop 24", "loop 24 plain 3", "loop 24  plain", "loop 24 plain ", "loop 24 plain,3 shy",
+                    "loop 24", "loop 24 plain 3", "loop 24 ", "loop  plain", "loop 24 plain,  shy", "loop 24 plain, 3 ",
+                    "loop 24  plain", "loop 24 plain ", "loop 24 plain,3 shy",
                     "loop 24 plain,  3 shy", "loop 24 plain , 3 shy", "loop 24 plain, ", "loop , 24 plain",
                     "loop 24 plain, , 3 shy", "loop 24 plain, 3", "loop 24, plain", "loop24 plain", "loop\t24 plain",
                     "rounds 3 hear 2", "24 plain"):

@@ -31,6 +31,10 @@ class TrialCase(unittest.TestCase):
     def check_alike(self, line, other):
         """Both tell the same, now and later."""
         self.assertEqual(plain.line_told(line), plain.line_told(other))
+        # First without a deed, which would hold the key anew.
+        for _ in range(60):
+            self.assertEqual(line.tick(), other.tick())
+            self.assertEqual(line.last_signs, other.last_signs)
         for one in (line, other):
             one.pull(one.town.numbers[0])
             one.part() if one.is_joined else one.join()

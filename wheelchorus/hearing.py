@@ -10,7 +10,6 @@ class Ear:
         self._before = None
         # The signs of the piece that has begun with a broken tick and has not ended yet.
         self._signs = []
-        self._closed = 0
 
     @property
     def before(self):
@@ -19,14 +18,12 @@ class Ear:
     def __call__(self, sign):
         if sign == Sign.KEY:
             self._signs = []
-            self._closed = 0
             self._before = None
             return None
         if sign == Sign.CLOSED and len(self._signs) == 0:
             return None
         self._signs.append(sign)
-        self._closed = self._closed + 1 if sign == Sign.CLOSED else 0
-        if self._closed < CLOSED_END:
+        if Sign.BROKEN in self._signs[-CLOSED_END:]:
             return None
         return self.end_piece()
 
@@ -35,7 +32,6 @@ class Ear:
         number = number_of(self._signs)
         is_alike = number == self._before
         self._signs = []
-        self._closed = 0
         self._before = number
         return number if self._hear == 1 or is_alike else None
 
