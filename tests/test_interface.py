@@ -38,6 +38,21 @@ FUNCTIONS = {
     "hearing": {
         "heard_on": "(tape, hear)", "first_heard": "(tape, hear, number)", "calls_on": "(tapes, hear)",
     },
+    "drawn": {
+        "tape_text": "(tape)", "read_tape": "(text)", "columns": "(tape, width)", "piece_rows": "(tape)",
+        "read_columns": "(rows)",
+    },
+    "covers": {"search": "(question)", "least_covers": "(question)", "least_cover": "(question)"},
+    "coverjudge": {
+        "cover_fault": "(question, lay_facts)", "tree_fault": "(question, tree)",
+        "safe_fault": "(boxes, number, safe, *, rounds, hear=1, key=False)",
+        "reading_fault": "(boxes, reading, *, hear=1, key=False)",
+    },
+    "readable": {
+        "false_reading": "(boxes, number, *, rounds, hear=1, key=False)",
+        "least_box_sets": "(boxes, number, *, rounds, hear=1, key=False)",
+    },
+    "deedrows": {"deed_row": "(town, reading, loop=None)", "cover_lines": "(question, lay_facts)"},
 }
 
 # For each class its own arguments (None if they are not told), its methods and its properties.
@@ -67,6 +82,24 @@ CLASSES = {
     "hearing": {
         "Ear": ("(self, hear)", {"__call__": "(self, sign)"}, ["before"]),
         "Ears": ("(self, many, hear)", {"__call__": "(self, signs)"}, []),
+    },
+    "question": {
+        "Question": ("(self, number, boxes, *, rounds, case, times=1, clean=False)", {
+            "lay": "(self, facts)", "choices": "(self, stroke, chosen)", "__len__": "(self)", "__iter__": "(self)",
+            "__contains__": "(self, x)",
+        }, []),
+    },
+    "trees": {
+        "Tree": ("(self, stroke, branches=())", {
+            "size": "(self)", "leaves": "(self)", "__eq__": "(self, other)",
+        }, []),
+    },
+    "covers": {
+        "Cover": ("(self, lay_facts)", {"__len__": "(self)", "__iter__": "(self)", "__eq__": "(self, other)"}, []),
+    },
+    "readable": {
+        "Reading": ("(self, number, rounds, form, case, first, second=())", {}, ["is_safe"]),
+        "Safe": ("(self, number, papers)", {}, ["is_safe"]),
     },
 }
 
@@ -104,6 +137,8 @@ class InterfaceTest(unittest.TestCase):
         self.assertTrue(inspect.isgeneratorfunction(module_of("lays").lays))
         self.assertTrue(inspect.isgeneratorfunction(module_of("tapes").walk_pieces))
         self.assertTrue(inspect.isgeneratorfunction(module_of("line").Line.ticks))
+        self.assertTrue(inspect.isgeneratorfunction(module_of("trees").Tree.leaves))
+        self.assertTrue(inspect.isgeneratorfunction(module_of("covers").least_covers))
 
 
 if __name__ == "__main__":

@@ -76,6 +76,22 @@ def is_sort(thing):
     return thing in (Town.PLAIN, Town.SHY)
 
 
+def is_box(thing):
+    return is_sequence(thing) and len(thing) == 2 and is_number(thing[0]) and is_sort(thing[1])
+
+
+def are_boxes(thing, least, most):
+    """Whether this is a sequence of so many boxes, no number of which stands twice."""
+    if not is_sequence(thing) or not least <= len(thing) <= most:
+        return False
+    return all([is_box(box) for box in thing]) and not has_double(thing)
+
+
+def has_double(boxes):
+    """Whether some number stands twice in boxes whose numbers are right."""
+    return len(set([number for number, _ in boxes])) < len(boxes)
+
+
 def check_town(loops, rounds, hear):
     if not are_loops(loops):
         raise BadTown("loops")
@@ -100,6 +116,5 @@ def check_boxes(boxes):
         raise BadTown("number")
     if not all([is_sort(sort) for _, sort in boxes]):
         raise BadTown("sort")
-    numbers = [number for number, _ in boxes]
-    if len(set(numbers)) < len(numbers):
+    if has_double(boxes):
         raise BadTown("double")

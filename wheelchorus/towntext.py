@@ -1,8 +1,9 @@
 """Towns as texts [1.9], [1.10]."""
 
 from wheelchorus.errors import BadRow, BadTown
+from wheelchorus.kinds import is_digit
 from wheelchorus.numbers import is_number
-from wheelchorus.town import MOST_BOXES, MOST_LOOPS, Town, is_sort
+from wheelchorus.town import MOST_BOXES, MOST_LOOPS, Town, has_double, is_sort
 
 LOOP_HEAD = "loop "
 
@@ -33,10 +34,6 @@ def read_head(row):
     return int(words[1]), int(words[3])
 
 
-def is_digit(word):
-    return len(word) == 1 and word in "0123456789"
-
-
 def read_loop(index, row):
     if not row.startswith(LOOP_HEAD):
         raise BadRow(index, "loop")
@@ -57,7 +54,7 @@ def wrong_row(what, loops):
         return first_row([not all([is_number(number) for number, _ in loop]) for loop in loops])
     if what == "sort":
         return first_row([not all([is_sort(sort) for _, sort in loop]) for loop in loops])
-    return first_row([has_double(loops, index) for index in range(len(loops))])
+    return first_row([has_double_up_to(loops, index) for index in range(len(loops))])
 
 
 def first_row(faults):
@@ -72,7 +69,6 @@ def is_loop_too_much(index, loop):
     return len(loop) > MOST_BOXES or index >= MOST_LOOPS
 
 
-def has_double(loops, index):
+def has_double_up_to(loops, index):
     """Whether some number stands twice in the loops up to this one."""
-    numbers = [number for loop in loops[:index + 1] for number, _ in loop]
-    return len(set(numbers)) < len(numbers)
+    return has_double([box for loop in loops[:index + 1] for box in loop])
