@@ -11,6 +11,17 @@ from wheelchorus.trees import Tree
 SMALL = [number for number in plain.ALL_NUMBERS if len(plain.row(number)) <= 16]
 CASES = ("quiet", "train", "key")
 
+# The arguments of false readings and of their judges [5.7], in the order in which they are checked.
+GOOD_HEARING = {"number": "24", "boxes": (("3", "plain"), ("1", "shy")), "rounds": 2, "hear": 2, "key": True}
+WRONG_HEARING = {
+    "number": plain.ANY_OBJECTS + ("889", 24),
+    "boxes": (None, "1", {}, ["1"], [("1", "plain"), ("1", "shy")], [("24", "plain")], [("1", "Plain")],
+              tuple((number, "plain") for number in plain.some_numbers(593, 31))),
+    "rounds": plain.ANY_OBJECTS + (0, 9),
+    "hear": plain.ANY_OBJECTS + (0, 3),
+    "key": (None, 0, 1, "", "key", []),
+}
+
 
 class Full(Exception):
     """More nodes than were allowed."""

@@ -4,7 +4,9 @@ import random
 import unittest
 
 from tests import plain
-from tests.papers import APART_WIRES, CASES, PlainQuestion, made_tree, some_arguments, some_readings, told_tree
+from tests.papers import (
+    APART_WIRES, CASES, GOOD_HEARING, WRONG_HEARING, PlainQuestion, made_tree, some_arguments, some_readings, told_tree,
+)
 from tests.test_covers import JUST_2000
 from wheelchorus.coverjudge import cover_fault, reading_fault, safe_fault, tree_fault
 from wheelchorus.covers import Cover, search
@@ -397,16 +399,6 @@ class ReadingFaultTest(unittest.TestCase):
 
 
 class BadQuestionTest(unittest.TestCase):
-    GOOD = {"number": "24", "boxes": BOXES, "rounds": 2, "hear": 2, "key": True}
-    WRONG = {
-        "number": plain.ANY_OBJECTS + ("889", 24),
-        "boxes": (None, "1", {}, ["1"], [("1", "plain"), ("1", "shy")], [("24", "plain")], [("1", "Plain")],
-                  tuple((number, "plain") for number in plain.some_numbers(593, 31))),
-        "rounds": plain.ANY_OBJECTS + (0, 9),
-        "hear": plain.ANY_OBJECTS + (0, 3),
-        "key": (None, 0, 1, "", "key", []),
-    }
-
     def judged(self, values):
         number, boxes, rounds = values["number"], values["boxes"], values["rounds"]
         more = {"hear": values["hear"], "key": values["key"]}
@@ -426,16 +418,16 @@ class BadQuestionTest(unittest.TestCase):
 
     def test_each_and_the_first_of_two(self):
         chance = random.Random(594)
-        names = list(self.GOOD)
+        names = list(GOOD_HEARING)
         for at, one in enumerate(names):
-            for thing in self.WRONG[one]:
-                self.check(one, {**self.GOOD, one: thing})
+            for thing in WRONG_HEARING[one]:
+                self.check(one, {**GOOD_HEARING, one: thing})
                 for other in names[at + 1:]:
-                    self.check(one, {**self.GOOD, one: thing, other: chance.choice(self.WRONG[other])})
+                    self.check(one, {**GOOD_HEARING, one: thing, other: chance.choice(WRONG_HEARING[other])})
 
     def test_hear_2_needs_rounds_2(self):
-        self.check("hear", {**self.GOOD, "rounds": 1})
-        for call in self.judged(self.GOOD) + self.judged({**self.GOOD, "rounds": 1, "hear": 1}):
+        self.check("hear", {**GOOD_HEARING, "rounds": 1})
+        for call in self.judged(GOOD_HEARING) + self.judged({**GOOD_HEARING, "rounds": 1, "hear": 1}):
             self.assertIsNotNone(call())
 
 

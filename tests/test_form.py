@@ -246,6 +246,21 @@ class ExpressionsTest(unittest.TestCase):
                 at_once = isinstance(place, (ast.For, ast.comprehension)) and place.iter is node
                 self.assertTrue(kept or at_once or is_call_of(place, AT_ONCE), ast.dump(node))
 
+    def test_own_generators_are_iterated_at_once(self):
+        functions = nodes(ast.FunctionDef)
+        names = {one.name for one in functions if nodes((ast.Yield, ast.YieldFrom), one)}
+        self.assertIn("leaves", names)
+        self.assertEqual(len([one for one in functions if one.name in names]), len(names))
+        for tree in TREES.values():
+            above = parents(tree)
+            for call in nodes(ast.Call, tree):
+                word = call.func.id if isinstance(call.func, ast.Name) else getattr(call.func, "attr", None)
+                if word not in names:
+                    continue
+                place = above[call]
+                looped = isinstance(place, (ast.For, ast.comprehension)) and place.iter is call
+                self.assertTrue(looped or isinstance(place, ast.YieldFrom) or is_call_of(place, AT_ONCE), word)
+
     def test_keywords_of_builtins(self):
         known = {"sorted": {"key", "reverse"}, "min": {"key", "default"}, "max": {"key", "default"},
                  "sum": {"start"}, "enumerate": {"start"}, "zip": {"strict"}}

@@ -53,6 +53,21 @@ FUNCTIONS = {
         "least_box_sets": "(boxes, number, *, rounds, hear=1, key=False)",
     },
     "deedrows": {"deed_row": "(town, reading, loop=None)", "cover_lines": "(question, lay_facts)"},
+    "spoils": {
+        "window": "(number, index)", "is_foreign": "(number, offset, *, rounds)",
+        "spoilt_by": "(number, other, sort, at, *, rounds)", "stays": "(number, other, at, *, rounds)",
+        "most_spoilt": "(number, other, sort, *, rounds)", "spoil_table": "(number, boxes, *, rounds)",
+        "fewest": "(table, *, rounds, hear=1)",
+    },
+    "hiding": {
+        "hidden": "(boxes, number, sort, *, rounds, hear=1)", "who_hides": "(boxes, *, rounds, hear=1)",
+        "first_hidden": "(boxes, *, rounds, hear=1, most)", "hiding_page": "(boxes, *, rounds, hear=1)",
+        "held_back": "(number, boxes, *, rounds, count)",
+    },
+    "hidingjudge": {"hiding_fault": "(boxes, number, sort, pulls, *, rounds, hear=1)"},
+    "house": {"false_levels": "(house, faults=())", "guarded_ring": "(seekers, need)"},
+    "panel": {"tried": "(panel, faults, beats)", "first_warning": "(house, beats, faults=())"},
+    "cards": {"is_stations": "(thing)", "card_text": "(card)", "read_card": "(text)"},
 }
 
 # For each class its own arguments (None if they are not told), its methods and its properties.
@@ -101,6 +116,28 @@ CLASSES = {
         "Reading": ("(self, number, rounds, form, case, first, second=())", {}, ["is_safe"]),
         "Safe": ("(self, number, papers)", {}, ["is_safe"]),
     },
+    "hiding": {
+        "Hiding": (None, {"__len__": "(self)", "__iter__": "(self)"}, []),
+        "Holding": (None, {}, []),
+    },
+    "ring": {
+        "Ring": ("(self, text)", {
+            "all_faults": "(self)", "reached": "(self, faults)", "walk_from": "(self, end, faults)",
+            "joined_with": "(self, other)", "__len__": "(self)", "__iter__": "(self)", "__eq__": "(self, other)",
+        }, []),
+    },
+    "house": {
+        "House": ("(self, box, ring, *, mark, rows, need=1)", {
+            "with_rules": "(self, *, ring=None, mark=None, rows=None, need=None)", "is_silent": "(self, *faults)",
+            "silent_faults": "(self)", "least_lots": "(self)", "__eq__": "(self, other)",
+        }, []),
+    },
+    "panel": {
+        "Panel": ("(self, house)", {
+            "put_fault": "(self, fault)", "mend_fault": "(self, fault)", "reset": "(self)", "beat": "(self, levels)",
+        }, []),
+    },
+    "cards": {"Card": ("(self, number, order, *, counts, owed=(0, 0, 0), moves=())", {}, [])},
 }
 
 
@@ -139,6 +176,7 @@ class InterfaceTest(unittest.TestCase):
         self.assertTrue(inspect.isgeneratorfunction(module_of("line").Line.ticks))
         self.assertTrue(inspect.isgeneratorfunction(module_of("trees").Tree.leaves))
         self.assertTrue(inspect.isgeneratorfunction(module_of("covers").least_covers))
+        self.assertTrue(inspect.isgeneratorfunction(module_of("ring").Ring.walk_from))
 
 
 if __name__ == "__main__":

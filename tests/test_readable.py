@@ -5,7 +5,9 @@ import random
 import unittest
 
 from tests import plain
-from tests.papers import APART_WIRES, Full, plain_false_reading, some_boxes, told_tree
+from tests.papers import (
+    APART_WIRES, GOOD_HEARING, WRONG_HEARING, Full, plain_false_reading, some_boxes, told_tree,
+)
 from tests.test_covers import JUST_2001
 from wheelchorus.coverjudge import reading_fault, safe_fault
 from wheelchorus.errors import BadQuestion, TooManyCases
@@ -255,16 +257,6 @@ class LeastBoxSetsTest(unittest.TestCase):
 
 
 class BadQuestionTest(unittest.TestCase):
-    GOOD = {"number": "24", "boxes": (("3", "plain"),), "rounds": 2, "hear": 2, "key": True}
-    WRONG = {
-        "number": plain.ANY_OBJECTS + ("889", 24),
-        "boxes": (None, "1", {}, ["1"], [("1", "plain"), ("1", "shy")], [("24", "plain")], [("1", "Plain")],
-                  tuple((number, "plain") for number in plain.some_numbers(593, 31))),
-        "rounds": plain.ANY_OBJECTS + (0, 9),
-        "hear": plain.ANY_OBJECTS + (0, 3),
-        "key": (None, 0, 1, "", "key", []),
-    }
-
     def check(self, what, values):
         number, boxes = values["number"], values["boxes"]
         more = {name: values[name] for name in ("rounds", "hear", "key")}
@@ -275,20 +267,20 @@ class BadQuestionTest(unittest.TestCase):
 
     def test_each_and_the_first_of_two(self):
         chance = random.Random(594)
-        names = list(self.GOOD)
+        names = list(GOOD_HEARING)
         for at, one in enumerate(names):
-            for thing in self.WRONG[one]:
-                self.check(one, {**self.GOOD, one: thing})
+            for thing in WRONG_HEARING[one]:
+                self.check(one, {**GOOD_HEARING, one: thing})
                 for other in names[at + 1:]:
-                    self.check(one, {**self.GOOD, one: thing, other: chance.choice(self.WRONG[other])})
+                    self.check(one, {**GOOD_HEARING, one: thing, other: chance.choice(WRONG_HEARING[other])})
 
     def test_hear_2_needs_rounds_2(self):
-        self.check("hear", {**self.GOOD, "rounds": 1})
+        self.check("hear", {**GOOD_HEARING, "rounds": 1})
 
     def test_too_many_boxes_for_sets_come_last(self):
         boxes = tuple((number, "plain") for number in ("1", "2", "3", "4", "5", "6", "7"))
         for what, thing in (("number", "0"), ("rounds", 0), ("hear", 3), ("key", 1)):
-            self.check(what, {**self.GOOD, "boxes": boxes, what: thing})
+            self.check(what, {**GOOD_HEARING, "boxes": boxes, what: thing})
 
 
 if __name__ == "__main__":

@@ -68,6 +68,16 @@ class TreeTest(unittest.TestCase):
         facts.append(5)
         self.assertEqual((tree.size(), tree.branches[0][0]), (2, ["1", "pull", 0, 1]))
 
+    def test_what_stands_in_a_wrong_stroke_or_in_wrong_facts_is_not_kept(self):
+        inner, table = ["pull"], {"at": [0]}
+        tree = Tree(table, [(("1", inner, 0, 1), Tree([inner]))])
+        inner.append(1)
+        table["at"].append(1)
+        table["more"] = None
+        self.assertEqual(tree.stroke, {"at": [0]})
+        facts, below = tree.branches[0]
+        self.assertEqual((facts, below.stroke), (("1", ["pull"], 0, 1), [["pull"]]))
+
     def test_5000_nodes_60_deep(self):
         def made(start):
             tree = Tree(start)

@@ -71,11 +71,7 @@ def heads_of(reading):
 def second_pulls(reading, begin):
     """The pulls for a second piece; a shy box of the first one still has its rounds to send."""
     heads = heads_of(reading)
-    pulls = []
-    for number, kind, at, _ in reading.second:
-        if kind != "head" or number not in heads:
-            pulls.append((begin + at, ("pull", number)))
-    return pulls
+    return [(begin + facts[2], ("pull", facts[0])) for facts in reading.second if facts[0] not in heads]
 
 
 def deed_order(timed):

@@ -33,10 +33,10 @@ def read_columns(rows):
     for index, row in enumerate(rows):
         head = column_head(len(text))
         letters = row[len(head):]
-        # All text so far stands in full rows, so the first row's letters tell the width.
+        # All text so far stands in full rows, so it tells the width; at first the first row does.
         width = len(text) // index if index > 0 else min(len(letters), MOST_WIDTH)
-        least = 1 if index == len(rows) - 1 else width
-        if not row.startswith(head) or not are_letters(letters) or not max(1, least) <= len(letters) <= width:
+        is_whole_row = len(letters) == width or index == len(rows) - 1
+        if not row.startswith(head) or not are_letters(letters) or not 1 <= len(letters) <= width or not is_whole_row:
             raise BadColumns(index)
         text = text + letters
     return read_tape(text)
