@@ -12,7 +12,7 @@ SMALL = [number for number in plain.ALL_NUMBERS if len(plain.row(number)) <= 16]
 CASES = ("quiet", "train", "key")
 
 # The arguments of false readings and of their judges [5.7], in the order in which they are checked.
-GOOD_HEARING = {"number": "24", "boxes": (("3", "plain"), ("1", "shy")), "rounds": 2, "hear": 2, "key": True}
+GOOD_HEARING = {"number": "24", "boxes": (("3", "plain"), ("1", "shy")), "rounds": 3, "hear": 2, "key": True}
 WRONG_HEARING = {
     "number": plain.ANY_OBJECTS + ("889", 24),
     "boxes": (None, "1", {}, ["1"], [("1", "plain"), ("1", "shy")], [("24", "plain")], [("1", "Plain")],

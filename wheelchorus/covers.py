@@ -83,11 +83,15 @@ def least_index_sets(question):
 
 
 def with_one_more(question, sets):
-    """All sets that have one more lay, which gives the first open stroke; each of them once."""
+    """All sets that have one more lay, which gives an open stroke; each of them once."""
     places = {facts: index for index, facts in enumerate(question)}
     larger = {}
     for indexes in sets:
-        chosen = facts_at(question, indexes)
-        for facts in question.choices(question.first_open(chosen), chosen):
+        for facts in fewest_choices(question, facts_at(question, indexes)):
             larger[tuple(sorted([*indexes, places[facts]]))] = True
     return list(larger)
+
+
+def fewest_choices(question, chosen):
+    """The choices for that open stroke for which there are the fewest; each cover has one of them."""
+    return min([question.choices(stroke, chosen) for stroke in question.open_strokes(chosen)], key=len)

@@ -65,13 +65,15 @@ class Question:
                 free.append(lay.facts())
         return tuple(free)
 
+    def open_strokes(self, chosen):
+        """The strokes of the pattern that none of these lays gives, ascending."""
+        given = {offset: True for facts in chosen for offset in self.lay(facts).strokes}
+        return [stroke for stroke in self.pattern if stroke not in given]
+
     def first_open(self, chosen):
         """The first stroke of the pattern that none of these lays gives; None if each is given."""
-        given = {offset: True for facts in chosen for offset in self.lay(facts).strokes}
-        for stroke in self.pattern:
-            if stroke not in given:
-                return stroke
-        return None
+        strokes = self.open_strokes(chosen)
+        return strokes[0] if len(strokes) > 0 else None
 
 
 def lays_by_stroke(some_lays):
