@@ -68,6 +68,16 @@ FUNCTIONS = {
     "house": {"false_levels": "(house, faults=())", "guarded_ring": "(seekers, need)"},
     "panel": {"tried": "(panel, faults, beats)", "first_warning": "(house, beats, faults=())"},
     "cards": {"is_stations": "(thing)", "card_text": "(card)", "read_card": "(text)"},
+    "orders": {
+        "judge_orders": "(room, *, most_open)", "least_out": "(room, *, most_open)",
+        "bare_rows": "(room, *, most_open)", "idle_crews": "(room, *, most_open)",
+    },
+    "orderjudge": {"table_fault": "(room, table, *, most_open)", "row_fault": "(room, events, *, most_open)"},
+    "service_run": {"play_service": "(service, timed, ticks)"},
+    "margins": {
+        "rest_within": "(service)", "greatest_open": "(service)", "greatest_most": "(service)",
+        "warning_after": "(service)",
+    },
 }
 
 # For each class its own arguments (None if they are not told), its methods and its properties.
@@ -138,6 +148,34 @@ CLASSES = {
         }, []),
     },
     "cards": {"Card": ("(self, number, order, *, counts, owed=(0, 0, 0), moves=())", {}, [])},
+    "room": {
+        "Room": ("(self, stations, cards)", {
+            "start": "(self)", "card_of": "(self, number)", "allowed": "(self, standing, most_open)",
+            "step": "(self, standing, event)", "with_card": "(self, card)",
+        }, []),
+    },
+    "watch": {
+        "Watch": ("(self, room)", {
+            "call": "(self, number)", "more": "(self, number)", "back": "(self, number)", "grade": "(self, number)",
+            "out_to": "(self, number)", "place": "(self, crew)",
+        }, ["standing"]),
+    },
+    "orders": {"Orders": (None, {}, ["is_safe"])},
+    "service": {
+        "Service": (
+            "(self, town, *, houses=(), stations=(0,), cards=(), cutting=False, joining=False, most=0, most_open=1)",
+            {"house_of": "(self, box)", "with_parts": "(self, **more)", "__eq__": "(self, other)"}, []),
+    },
+    "service_run": {
+        "ServiceRun": ("(self, service)", {
+            "pull": "(self, number)", "cut": "(self, loop, stretch)", "mend": "(self, loop, stretch)",
+            "join": "(self)", "part": "(self)", "fault": "(self, box, fault)", "heal": "(self, box, fault)",
+            "levels": "(self, box, levels)", "more": "(self, number)", "back": "(self, number)",
+            "do": "(self, happening)", "tick": "(self)", "ticks": "(self, many)", "box": "(self, number)",
+            "grade": "(self, number)", "place": "(self, crew)", "rests": "(self)", "__iter__": "(self)",
+            "__len__": "(self)",
+        }, ["clock", "is_joined", "cuts", "tapes", "book", "log", "hearings", "sendings", "pullings"]),
+    },
 }
 
 
@@ -177,6 +215,7 @@ class InterfaceTest(unittest.TestCase):
         self.assertTrue(inspect.isgeneratorfunction(module_of("trees").Tree.leaves))
         self.assertTrue(inspect.isgeneratorfunction(module_of("covers").least_covers))
         self.assertTrue(inspect.isgeneratorfunction(module_of("ring").Ring.walk_from))
+        self.assertTrue(inspect.isgeneratorfunction(module_of("service_run").ServiceRun.ticks))
 
 
 if __name__ == "__main__":
