@@ -138,7 +138,7 @@ class NamesTest(unittest.TestCase):
                 self.assertEqual(own & set(dir(builtins)), set(), function.name)
                 bound |= own
             bound |= {node.id for node in nodes(ast.Name, tree) if isinstance(node.ctx, ast.Store)}
-            bound |= {node.name for node in nodes(ast.ExceptHandler, tree)}
+            bound |= {node.name for node in nodes(ast.ExceptHandler, tree) if node.name is not None}
             used = {node.id for node in nodes(ast.Name, tree) if isinstance(node.ctx, ast.Load)}
             self.assertEqual(used - bound - BUILTINS, set(), name)
             self.assertNotIn("_", used)

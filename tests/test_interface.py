@@ -78,6 +78,22 @@ FUNCTIONS = {
         "rest_within": "(service)", "greatest_open": "(service)", "greatest_most": "(service)",
         "warning_after": "(service)",
     },
+    "verdict": {"verdict": "(service)", "part_of": "(service, statement)"},
+    "verdictjudge": {
+        "shows": "(service, statement, number, timed, ticks)",
+        "verdict_fault": "(service, verdict, *, statements=('false', 'hidden', 'houses', 'crews'))",
+    },
+    "changes": {"change_thing": "(change)", "changed": "(service, changes)"},
+    "repairs": {"sets_of": "(many)", "least_repairs": "(service, pool)"},
+    "repairjudge": {"repairs_fault": "(service, pool, entries, least)"},
+    "tapedesk": {
+        "desk_rows": "(book)", "desk_deeds": "(book)", "desk_book": "(service, tapes, deeds)",
+        "book_fault": "(service, tapes, book)",
+    },
+    "doubts": {
+        "rounds_ahead": "(tape)", "doubt": "(service, loop, number, ahead)", "sure_calls": "(service, tapes)",
+    },
+    "pages": {"book_page": "(rows)", "read_book": "(lines)", "repairs_page": "(repairs)"},
 }
 
 # For each class its own arguments (None if they are not told), its methods and its properties.
@@ -176,6 +192,28 @@ CLASSES = {
             "__len__": "(self)",
         }, ["clock", "is_joined", "cuts", "tapes", "book", "log", "hearings", "sendings", "pullings"]),
     },
+    "verdict": {
+        "Verdict": ("(self, statement, *, number=None, wire_index=None, timed=(), duration=0, papers=())",
+                    {"__bool__": "(self)"}, ["is_safe"]),
+    },
+    "repairs": {
+        "Repairs": (None, {
+            "fate": "(self, chosen)", "paper": "(self, chosen)", "service_of": "(self, chosen)", "__iter__": "(self)",
+            "__len__": "(self)", "__contains__": "(self, x)",
+        }, []),
+    },
+    "tapedesk": {
+        "TapeDesk": ("(self, service)", {
+            "take": "(self, near, far)", "more": "(self, number)", "back": "(self, number)", "__iter__": "(self)",
+            "__len__": "(self)",
+        }, ["clock", "book", "standing"]),
+    },
+}
+
+CLASS_VALUES = {
+    ("town", "Town", "PLAIN"): "plain", ("town", "Town", "SHY"): "shy", ("tapes", "Sign", "CLOSED"): 0,
+    ("tapes", "Sign", "BROKEN"): 1, ("tapes", "Sign", "KEY"): 2, ("cards", "Card", "GRADES"): 3,
+    ("verdict", "Verdict", "STATEMENTS"): ("false", "hidden", "houses", "crews"),
 }
 
 
@@ -208,6 +246,10 @@ class InterfaceTest(unittest.TestCase):
                 for told in properties:
                     self.assertIsInstance(vars(found)[told], property)
 
+    def test_class_values(self):
+        for (name, word, told), worth in CLASS_VALUES.items():
+            self.assertEqual(vars(getattr(module_of(name), word))[told], worth)
+
     def test_generators(self):
         self.assertTrue(inspect.isgeneratorfunction(module_of("lays").lays))
         self.assertTrue(inspect.isgeneratorfunction(module_of("tapes").walk_pieces))
@@ -216,6 +258,7 @@ class InterfaceTest(unittest.TestCase):
         self.assertTrue(inspect.isgeneratorfunction(module_of("covers").least_covers))
         self.assertTrue(inspect.isgeneratorfunction(module_of("ring").Ring.walk_from))
         self.assertTrue(inspect.isgeneratorfunction(module_of("service_run").ServiceRun.ticks))
+        self.assertTrue(inspect.isgeneratorfunction(module_of("repairs").sets_of))
 
 
 if __name__ == "__main__":

@@ -68,36 +68,52 @@ def shy_lays(pattern, span, number, case):
 
 
 def plain_lays(pattern, span, number, rounds, case):
+    train = Train(pattern, span, number)
     found = []
     if case != QUIET:
-        found.extend(lays_from(pattern, span, number, "train", 0, 1, rounds - 1))
+        found.extend(train.lays_from("train", 0, 1, rounds - 1))
     if case == KEY:
         for ticks in range(1, length_of(number)):
-            found.extend(lays_from(pattern, span, number, "tail", -ticks, 1, rounds))
+            found.extend(train.lays_from("tail", -ticks, 1, rounds))
     # A pull begins with a stroke, so it can only begin at a stroke of the pattern.
     for at in pattern.cut(span):
-        found.extend(lays_from(pattern, span, number, "pull", at, rounds, rounds))
+        found.extend(train.lays_from("pull", at, rounds, rounds))
     return found
 
 
-def lays_from(pattern, span, number, kind, at, least, most):
-    """The lays of this kind whose train begins here and has from least to most rounds."""
-    found = []
-    for rounds in range(least, good_rounds(pattern, span, number, at, most) + 1):
-        strokes = train_strokes(number, at, rounds, span)
-        if len(strokes) > 0:
-            found.append(Lay(number, kind, at, rounds, strokes, at + rounds * length_of(number)))
-    return found
+class Train:
+    """The trains of one plain box over a pattern."""
 
+    def __init__(self, pattern, span, number):
+        self.span = span
+        self.number = number
+        self.length = length_of(number)
+        self.offsets = strokes_of(number).offsets
+        self.known = {offset: True for offset in pattern}
 
-def good_rounds(pattern, span, number, at, most):
-    """How many rounds of a train that begins here, most at most, give strokes of the pattern alone."""
-    length = length_of(number)
-    for index in range(most):
-        # A train with a wrong round is wrong with all later rounds, too.
-        if not train_strokes(number, at + index * length, 1, span).within(pattern):
-            return index
-    return most
+    def lays_from(self, kind, at, least, most):
+        """The lays of this kind whose train begins here and has from least to most rounds."""
+        found = []
+        for rounds in range(least, self.good_rounds(at, most) + 1):
+            strokes = train_strokes(self.number, at, rounds, self.span)
+            if len(strokes) > 0:
+                found.append(Lay(self.number, kind, at, rounds, strokes, at + rounds * self.length))
+        return found
+
+    def good_rounds(self, at, most):
+        """How many rounds of a train that begins here, most at most, give strokes of the pattern alone."""
+        for index in range(most):
+            # A train with a wrong round is wrong with all later rounds, too.
+            if self.has_foreign(at + index * self.length):
+                return index
+        return most
+
+    def has_foreign(self, at):
+        """Whether a row that begins here has a stroke within the span that is none of the pattern."""
+        for offset in self.offsets:
+            if at + offset not in self.known and 0 <= at + offset < self.span:
+                return True
+        return False
 
 
 def lay_of(facts, pattern, span, boxes, rounds, case):
