@@ -90,7 +90,8 @@ class TableTest(unittest.TestCase):
             ["in", 1], ("in", True), ("in", False), ("in", 2), ("in", "1"), ("in", None), ("in",), ("in", 1, 1),
             ("out", "3"), ("out", "5"), ("out", 24), ("out", ["24"]), ("out", ("24",)), ("out", None), ("In", 1),
             (1, "in"), None, "in", (), ("out", {"24": 1}), (["in"], 1), (None, 1), ("in", [1]), ("out", True),
-        ))
+            ("Out", "24"), (None, "24"), ("", "24"),
+        )) + tuple((room.start()[0], grades) for grades in ((-1, 0), (0, -1), (4, 0), (0, True), (0, "1"), [0, 0]))
         for thing in wrong:
             self.check(("standing", 1), (table[0], thing) + table[2:])
             # It comes ahead of a start that lacks and of all that is open.

@@ -47,7 +47,7 @@ class BesideAllRowsTest(unittest.TestCase):
     def test_small_rooms(self):
         chance = random.Random(891)
         told = {}
-        for _ in range(150):
+        for _ in range(100):
             room = small_room(chance)
             most_open = chance.randint(1, 2)
             rows = tried_rows(room, most_open)

@@ -145,6 +145,12 @@ class RepairsTest(unittest.TestCase):
         self.assertEqual(repairs.fate((1, 2)), "cannot")
         self.assertNotIn(((1,), 2), repairs.harms)
 
+    def test_least_sets_of_two_sizes(self):
+        pool = [("hear", 1), ("ring", "5", "soo"), ("rounds", 3), ("number", "3", "211")]
+        repairs = self.check(FAILING["hidden"], pool)
+        self.assertEqual(repairs.least, ((2,), (0, 3)))
+        self.assertEqual(list(repairs), [(2,), (0, 3)])
+
     def test_an_empty_pool(self):
         for service, least in ((SAFE, ((),)), (FAILING["houses"], ())):
             for pool in ((), []):
@@ -193,6 +199,10 @@ class ErrorsTest(unittest.TestCase):
                     method(thing)
                 self.assertIs(caught.exception.thing, thing)
         self.assertIn((), repairs)
+        single = least_repairs(FAILING["houses"], [("need", "5", 1), ("ring", "5", "sosos")])
+        self.assertEqual(single.least, ((0,), (1,)))
+        for thing in ((False,), (True,), [0], [1], 0, 1, ((0,),), "0"):
+            self.assertNotIn(thing, single)
         empty = least_repairs(FAILING["false"], [])
         self.assertNotIn((), empty)
         one = least_repairs(FAILING["hidden"], [("rounds", 1), ("hear", 1)])

@@ -175,7 +175,7 @@ class KnownTest(unittest.TestCase):
         first = [6, 6]
         run.levels("2", (5, 5))
         run.levels("2", first)
-        first[0] = 0
+        first[:] = [0, 0]
         run.tick()
         self.assertEqual(run.book, (("warning", 3, "2", True),))
         run.levels("12", [1])

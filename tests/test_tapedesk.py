@@ -226,6 +226,10 @@ class BookTest(unittest.TestCase):
                 with self.assertRaises(BadDeskDeed) as caught:
                     desk_book(ONE, tapes, deeds)
                 self.assertEqual(caught.exception.index, index)
+        for thing in ((-1, ("back", "1")), (7, ("back", "1")), (False, ("back", "1"))):
+            with self.assertRaises(BadDeskDeed) as caught:
+                desk_book(ONE, tapes, [thing])
+            self.assertEqual(caught.exception.index, 0)
         for thing in plain.ANY_OBJECTS:
             for word in ("more", "back"):
                 with self.assertRaises(NoCall) as caught:

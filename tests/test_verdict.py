@@ -200,6 +200,17 @@ class PartTest(unittest.TestCase):
             self.assertEqual((found.statement, found.number, found.wire_index), ("hidden", "24", 0))
             self.assertTrue(shown(Service(town, most=99), "hidden", "24", found.timed, found.duration))
 
+    def test_pulls_far_below_the_called_one(self):
+        for number, other, rounds, at in (("7", "3569", 2, -34), ("1341", "6279", 2, -24), ("4223", "6724", 3, -14)):
+            for joining in (False, True):
+                loops = [[(number, "plain")], [(other, "shy")]] if joining else [[(number, "plain"), (other, "shy")]]
+                service = Service(Town(loops, rounds=rounds, hear=2), most=1, joining=joining)
+                found = part_of(service, "hidden")
+                pulls = [(tick, happening[1]) for tick, happening in found.timed if happening[0] == "pull"]
+                self.assertEqual([name for _, name in pulls], [other, number])
+                self.assertEqual(pulls[0][0] - pulls[1][0], at)
+                self.assertTrue(shown(service, "hidden", number, found.timed, found.duration))
+
     def test_the_least_most_with_which_it_fails(self):
         chance = random.Random(9122)
         many = 0

@@ -153,6 +153,11 @@ class ShowsTest(unittest.TestCase):
         self.check(True, service, "crews", "24", [pull(0, "5"), (59, ("back", "5")), pull(60, "24")]
                    + [(110, ("more", "24"))] * 2, 110)
 
+        # Opened, closed, and opened again beside another one.
+        again = [pull(0, "5"), (59, ("back", "5")), pull(60, "24"), pull(110, "5")] + [(170, ("more", "24"))] * 2
+        self.check(False, service, "crews", "24", again, 170)
+        self.check(True, service.with_parts(most_open=2), "crews", "24", again, 170)
+
     def test_crews_of_a_number_that_nobody_pulled(self):
         town = Town([[("1", "plain"), ("2", "plain")], [("12", "plain")]], rounds=1)
         service = Service(town, cards=[read_card("12: - / 0 0 0 / 1 0 0")])
@@ -161,6 +166,10 @@ class ShowsTest(unittest.TestCase):
         self.check(True, service, "crews", "12", [pull(0, "12")], 12)
         # 12 was pulled when it was heard, at the very tick ahead of it.
         self.check(True, service, "crews", "12", [pull(0, "1"), pull(4, "2"), pull(11, "12")], 12)
+        late = service.with_parts(cards=[read_card("12: - / 0 0 0 / 0 1 0")])
+        pulls = [pull(0, "1"), pull(4, "2")]
+        self.check(False, late, "crews", "12", pulls + [pull(12, "12"), (12, ("more", "12"))], 12)
+        self.check(True, late, "crews", "12", pulls + [pull(11, "12"), (12, ("more", "12"))], 12)
         # 21 is heard and was not pulled, although it has no card.
         self.check(False, service, "crews", "12", [pull(0, "2"), pull(0, "12"), pull(6, "1")], 12)
 

@@ -195,7 +195,8 @@ class ServiceRun:
             yield self.tick()
 
     def beat_panels(self):
-        for box in self._panels:
+        for house in self.service.houses:
+            box = house.box
             panel = self._panels[box]
             if box not in self._given:
                 # With all levels at the mark a beat leaves what a reset leaves.

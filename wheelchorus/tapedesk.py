@@ -96,9 +96,11 @@ def is_tape_pair(thing):
 
 def tick_signs(tapes):
     """For each tick the signs of all near and of all far tapes."""
-    near = list(zip(*[pair[0] for pair in tapes]))
-    far = list(zip(*[pair[1] for pair in tapes]))
-    return list(zip(near, far))
+    near = [pair[0] for pair in tapes]
+    far = [pair[1] for pair in tapes]
+    near_signs = list(zip(*near))
+    far_signs = list(zip(*far))
+    return list(zip(near_signs, far_signs))
 
 
 def desk_book(service, tapes, deeds):
