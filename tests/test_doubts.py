@@ -162,6 +162,23 @@ class DoubtTest(unittest.TestCase):
         line = play(service.town, timed, tick + 1)
         self.assertIn((tick, reading.number), rounds_on(line.near_tape(loop)))
 
+    def test_no_run_makes_a_sure_round(self):
+        """[10.13]: a round of a number that nobody pulled is doubtful behind what stands ahead of it."""
+        chance = random.Random(10132)
+        words = {}
+        for _ in range(60):
+            service = some_service(chance, houses=(), cards=())
+            run = some_run(chance, service)
+            first = {}
+            for tick, number in run.pullings:
+                first.setdefault(number, tick)
+            for loop, pair in enumerate(run.tapes):
+                for tick, number, ahead, _ in rounds_ahead(pair[0]) + rounds_ahead(pair[1]):
+                    if number not in first or first[number] > tick:
+                        self.assertFalse(doubt(service, loop, number, ahead).is_safe)
+                        words[ahead] = words.get(ahead, 0) + 1
+        self.assertTrue({"quiet", "train", "key"} <= set(words), words)
+
     def test_the_wire(self):
         town = Town([[("1", "plain")], [("2", "plain")], [("12", "shy")]], rounds=1)
         for loop in (0, 1, 2):

@@ -55,6 +55,7 @@ def is_worth(word, thing):
         return are_counts(thing)
     if word == "ring":
         return is_ring_text(thing)
+    # A need of more seekers than a ring can have is no change at all.
     return is_whole_within(thing, 1, MOST_SIGNS)
 
 
