@@ -37,6 +37,8 @@ SPECIAL = set(
     "__init__ __eq__ __repr__ __str__ __len__ __enter__ __exit__ __call__ __iter__ __contains__ __bool__ __or__"
     " __and__ __sub__ __rshift__".split()
 )
+CHANGING_METHODS = set("append clear extend insert pop remove reverse setdefault sort update add discard".split())
+CHANGING_SPECIAL = {"__init__", "__call__", "__enter__", "__exit__"}
 AT_ONCE = set("list tuple dict sorted sum any all enumerate zip min max".split())
 
 
@@ -71,6 +73,38 @@ def class_parts(node):
         if isinstance(one.ctx, ast.Store) and isinstance(one.value, ast.Name) and one.value.id == "self"
     }
     return {one.name for one in functions} - properties, properties, attributes
+
+
+def changes_in(node):
+    """What is assigned, deleted or changed by a method: attributes, items, and what a method changes by its name."""
+    stores = (ast.Store, ast.Del)
+    found = [one for one in nodes((ast.Attribute, ast.Subscript), node) if isinstance(one.ctx, stores)]
+    for call in nodes(ast.Call, node):
+        if isinstance(call.func, ast.Attribute) and call.func.attr in CHANGING_METHODS:
+            found.append(call.func.value)
+    return found
+
+
+def own_functions():
+    """All functions and methods by their names; behind the name of a class stands its __init__."""
+    found = {}
+    for node in nodes(ast.FunctionDef):
+        found.setdefault(node.name, []).append(node)
+    for node in nodes(ast.ClassDef):
+        found.setdefault(node.name, []).extend([
+            one for one in node.body if isinstance(one, ast.FunctionDef) and one.name == "__init__"])
+    return found
+
+
+def reached_from(roots):
+    """These functions, and all that could be meant by the names which they call."""
+    own = own_functions()
+    reached = list(roots)
+    for function in reached:
+        for call in nodes(ast.Call, function):
+            name = call.func.id if isinstance(call.func, ast.Name) else getattr(call.func, "attr", None)
+            reached.extend([one for one in own.get(name, []) if one not in reached])
+    return reached
 
 
 class FilesTest(unittest.TestCase):
@@ -276,12 +310,38 @@ class ExpressionsTest(unittest.TestCase):
             for function in node.body:
                 if not isinstance(function, ast.FunctionDef):
                     continue
-                if not function.decorator_list and function.name not in SPECIAL - {"__init__", "__call__", "__enter__",
-                                                                                   "__exit__"}:
+                if not function.decorator_list and function.name not in SPECIAL - CHANGING_SPECIAL:
                     continue
                 stores = [one for one in nodes((ast.Attribute, ast.Subscript), function)
                           if isinstance(one.ctx, ast.Store)]
                 self.assertEqual(stores + nodes(ast.AugAssign, function), [], function.name)
+
+    def test_what_is_read_or_compared_calls_nothing_that_changes(self):
+        roots = [one for node in nodes(ast.ClassDef) for one in node.body if isinstance(one, ast.FunctionDef)
+                 and (one.decorator_list or one.name in SPECIAL - CHANGING_SPECIAL)]
+        self.assertIn("__eq__", [one.name for one in roots])
+        own = own_functions()
+        for function in reached_from(roots):
+            # What stands in a local variable was made by the function; an __init__ sets what is its own.
+            changed = [one for one in changes_in(function) if not isinstance(one, ast.Name)]
+            if function.name == "__init__":
+                changed = [one for one in changed if not isinstance(one.value, ast.Name) or one.value.id != "self"]
+            self.assertEqual([ast.unparse(one) for one in changed], [], function.name)
+            for call in nodes(ast.Call, function):
+                # Nothing that is passed or held is called, neither a parameter nor an item.
+                self.assertIsInstance(call.func, (ast.Name, ast.Attribute), function.name)
+                if isinstance(call.func, ast.Name):
+                    self.assertIn(call.func.id, set(own) | BUILTINS, function.name)
+
+    def test_no_loop_changes_what_an_object_is_iterated_over_by(self):
+        walked = {one.attr for function in own_functions()["__iter__"] for one in nodes(ast.Attribute, function)}
+        self.assertIn("_book_rows", walked)
+        for loop in nodes((ast.For, ast.ListComp, ast.DictComp, ast.SetComp, ast.GeneratorExp)):
+            iterated = [loop.iter] if isinstance(loop, ast.For) else [one.iter for one in loop.generators]
+            if all([is_call_of(one, {"range", "list"}) for one in iterated]):
+                continue
+            changed = [one for change in changes_in(loop) for one in nodes(ast.Attribute, change)]
+            self.assertEqual([ast.unparse(one) for one in changed if one.attr in walked], [], ast.unparse(loop))
 
 
 if __name__ == "__main__":

@@ -64,6 +64,16 @@ class WatchTest(unittest.TestCase):
         self.assertEqual(watch.standing, ((("in", 0), ("in", 1), ("in", 1)), (0, 1)))
         self.assertEqual(watch.call("24"), (1, (0,), ((1, 0),), 0))
 
+    def test_call_each(self):
+        """As the calls one by one: in the order given, without the numbers that were open or have no card."""
+        watch, other = small(), small()
+        self.assertEqual(watch.call_each(()), [])
+        expected = [("3", other.call("3")), ("24", other.call("24"))]
+        self.assertEqual(watch.call_each(("12", "3", "24", "3")), expected)
+        self.assertEqual(watch.standing, other.standing)
+        self.assertEqual(watch.call_each(("24", "3")), [])
+        self.assertEqual(watch.standing, other.standing)
+
     def test_objects_that_are_not_the_number_of_a_card(self):
         watch = small()
         watch.call("24")

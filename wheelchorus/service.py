@@ -37,6 +37,8 @@ class Service:
         self.most_open = most_open
         self.wires = wires_of(town, joining)
         self.key = cutting or joining
+        # Told once, since no card changes: == compares what is there, and calls nothing.
+        self.card_texts = tuple([card_text(card) for card in self.cards])
 
     def __eq__(self, other):
         return (
@@ -44,15 +46,12 @@ class Service:
             and self.town == other.town
             and self.houses == other.houses
             and self.stations == other.stations
-            and self.card_texts() == other.card_texts()
+            and self.card_texts == other.card_texts
             and self.cutting == other.cutting
             and self.joining == other.joining
             and self.most == other.most
             and self.most_open == other.most_open
         )
-
-    def card_texts(self):
-        return [card_text(card) for card in self.cards]
 
     def house_of(self, box):
         for house in self.houses:

@@ -184,10 +184,8 @@ class ServiceRun:
         self._sent_rounds.extend([(tick, number) for number in sent])
         numbers = ears(line.last_signs)
         self._heard.extend([(tick, number) for number in numbers])
-        for number in numbers:
-            told = self._watch.call(number)
-            if told is not None:
-                self._book_rows.append(("call", tick, number) + told)
+        opened = self._watch.call_each(numbers)
+        self._book_rows.extend([("call", tick, number) + told for number, told in opened])
         return numbers
 
     def ticks(self, many):

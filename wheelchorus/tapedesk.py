@@ -42,10 +42,8 @@ class TapeDesk:
             raise BadSigns("far")
         ears = self._ears
         numbers = ears((*near, *far))
-        for number in numbers:
-            told = self._watch.call(number)
-            if told is not None:
-                self.add_row(CALL, number, told)
+        opened = self._watch.call_each(numbers)
+        self._book_rows.extend([(CALL, self._now, number) + told for number, told in opened])
         self._now += 1
         return numbers
 

@@ -87,7 +87,7 @@ def basis_of(service, statement):
         houses = [(house.box, house.ring, house.mark, house.rows, house.need) for house in service.houses]
         return statement, tuple(houses)
     sorts = [town.sort_of(number) for number in service.room.numbers]
-    return statement, service.stations, tuple(service.card_texts()), service.most_open, town.rounds, tuple(sorts)
+    return statement, service.stations, service.card_texts, service.most_open, town.rounds, tuple(sorts)
 
 
 def judged_part(service, statement):

@@ -32,6 +32,15 @@ class Watch:
         # A number that is heard need not have a card.
         return self.do_event(CALL, number) if number in self._room.numbers else None
 
+    def call_each(self, numbers):
+        """Calls these numbers in order; each number that this opens, with what the call told."""
+        opened = []
+        for number in numbers:
+            told = self.call(number)
+            if told is not None:
+                opened.append((number, told))
+        return opened
+
     def more(self, number):
         self.check_open(number)
         if self.grade(number) == Card.GRADES:
